@@ -11,6 +11,12 @@ INTERFACE = {
     "splitting": ("split(total, weights)", "rests(total, weights)"),
     "naming": ("renamed(book, words=None, later=0)", "house_later(house, later=0)"),
     "lines": ("shown_house(house)", "shown_page(page)", "shown_pages(pages)"),
+    "menus": ("is_menu(thing)", "is_offs(thing)", "price(menu, item, minute=0)", "minutes_of(menu, item)"),
+    "deeds": ("is_deed(thing)", "is_page(thing)"),
+    "jobs": ("is_jobs(thing)", "within(jobs, begin, end)", "later_jobs(jobs, by=1)"),
+    "readings": ("read_house(text)", "read_page(text, line=0)", "read_pages(text)"),
+    "rowchecker": ("lets_row(jobs, fires, thing, some=False)",),
+    "splitchecker": ("lets_split(total, weights, thing)",),
 }
 
 
