@@ -3,18 +3,24 @@
 import copy
 import unittest
 
+from tablebills.books import is_book
 from tablebills.deeds import is_deed, is_page
 from tablebills.errors import NoPaper
+from tablebills.houses import is_house
 from tablebills.jobs import is_jobs
 from tablebills.kinds import is_number, is_word
 from tablebills.menus import is_menu, is_offs
 from tablebills.rowchecker import lets_row
 from tablebills.splitchecker import lets_split
+from tablebills.stretchchecker import lets_full
+from tablebills.trees import is_tree
 from tests.samples import ANY_THINGS, DEEDS, HOUSE
 
-LOOKS = (is_number, is_word, is_menu, is_offs, is_deed, is_page, is_jobs)
-THINGS = ANY_THINGS + HOUSE[:2] + tuple(deed for deed, text in DEEDS) + (
-    (), ((3, 8, 5),), ((600, 1), ("go", "ann")), ((0, 0, 1), [1, 0, 1]), (1, [2]), ([1], 2))
+LOOKS = (is_number, is_word, is_menu, is_offs, is_deed, is_page, is_jobs, is_book, is_house, is_tree)
+THINGS = ANY_THINGS + (HOUSE,) + HOUSE[:2] + tuple(deed for deed, text in DEEDS) + (
+    (), ((3, 8, 5),), ((600, 1), ("go", "ann")), ((0, 0, 1), [1, 0, 1]), (1, [2]), ([1], 2),
+    (((600, 1), ("go", "ann")),), (((600, 1), ("go", "ann")), []), ((1, ()), (2, ((1, ()),))), ((1, ()), (2, [])),
+    HOUSE[:3] + ([1],), (1, 3), (0, 4))
 
 
 def answer(checker, *told):
@@ -40,8 +46,9 @@ class TestAnyThings(unittest.TestCase):
             for some in (True, False):
                 first = answer(lets_row, jobs, 2, thing, some)
                 self.assertEqual(answer(lets_row, jobs, 2, thing, some), first)
-            first = answer(lets_split, 3, (1, 2), thing)
-            self.assertEqual(answer(lets_split, 3, (1, 2), thing), first)
+            for checker, told in ((lets_split, (3, (1, 2))), (lets_full, (jobs, 1))):
+                first = answer(checker, *told, thing)
+                self.assertEqual(answer(checker, *told, thing), first)
         self.assertEqual(things, THINGS)
 
 

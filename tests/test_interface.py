@@ -17,6 +17,12 @@ INTERFACE = {
     "readings": ("read_house(text)", "read_page(text, line=0)", "read_pages(text)"),
     "rowchecker": ("lets_row(jobs, fires, thing, some=False)",),
     "splitchecker": ("lets_split(total, weights, thing)",),
+    "books": ("is_book(thing)", "book_of(pages)", "until(book, minute)"),
+    "costs": ("percent_at(offs, item, minute=0)", "cost(menu, offs, item, minute=0)"),
+    "houses": ("is_house(thing)",),
+    "kitchen": ("kitchen(jobs, fires=1)",),
+    "stretchchecker": ("lets_full(jobs, fires, thing)",),
+    "trees": ("is_tree(thing)", "leaves(total, tree)"),
 }
 
 
