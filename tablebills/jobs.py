@@ -29,12 +29,12 @@ def excess(jobs, fires, begin, end):
 
 
 def stretches(jobs):
-    """The STRETCHES from a JOB's begin to a JOB's end: where any is FULL, one of these is."""
+    """The STRETCHES from a JOB's begin to a JOB's end, rising: where any is FULL, one of these is."""
     begins = sorted(set([begin for begin, end, pieces in jobs]))
     ends = sorted(set([end for begin, end, pieces in jobs]))
     return [(begin, end) for begin in begins for end in ends if begin <= end]
 
 
 def full_stretches(jobs, fires):
-    """Those of these STRETCHES that are FULL."""
+    """Those of these STRETCHES that are FULL, rising."""
     return [(begin, end) for begin, end in stretches(jobs) if excess(jobs, fires, begin, end) > 0]

@@ -6,9 +6,11 @@ import unittest
 from tablebills.books import is_book
 from tablebills.deeds import is_deed, is_page
 from tablebills.errors import NoPaper
+from tablebills.fewestchecker import lets_fewest
 from tablebills.houses import is_house
 from tablebills.jobs import is_jobs
 from tablebills.kinds import is_number, is_word
+from tablebills.latechecker import lets_late
 from tablebills.menus import is_menu, is_offs
 from tablebills.rowchecker import lets_row
 from tablebills.splitchecker import lets_split
@@ -20,7 +22,7 @@ LOOKS = (is_number, is_word, is_menu, is_offs, is_deed, is_page, is_jobs, is_boo
 THINGS = ANY_THINGS + (HOUSE,) + HOUSE[:2] + tuple(deed for deed, text in DEEDS) + (
     (), ((3, 8, 5),), ((600, 1), ("go", "ann")), ((0, 0, 1), [1, 0, 1]), (1, [2]), ([1], 2),
     (((600, 1), ("go", "ann")),), (((600, 1), ("go", "ann")), []), ((1, ()), (2, ((1, ()),))), ((1, ()), (2, [])),
-    HOUSE[:3] + ([1],), (1, 3), (0, 4))
+    HOUSE[:3] + ([1],), (1, 3), (0, 4), (0, (), None), (1, ([3],), [1]), (2, [()], (0, 4)))
 
 
 def answer(checker, *told):
@@ -46,7 +48,8 @@ class TestAnyThings(unittest.TestCase):
             for some in (True, False):
                 first = answer(lets_row, jobs, 2, thing, some)
                 self.assertEqual(answer(lets_row, jobs, 2, thing, some), first)
-            for checker, told in ((lets_split, (3, (1, 2))), (lets_full, (jobs, 1))):
+            for checker, told in ((lets_split, (3, (1, 2))), (lets_full, (jobs, 1)), (lets_late, (jobs, 2)),
+                                  (lets_late, ((), 1)), (lets_fewest, (jobs,)), (lets_fewest, ((),))):
                 first = answer(checker, *told, thing)
                 self.assertEqual(answer(checker, *told, thing), first)
         self.assertEqual(things, THINGS)

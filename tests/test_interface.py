@@ -23,6 +23,13 @@ INTERFACE = {
     "kitchen": ("kitchen(jobs, fires=1)",),
     "stretchchecker": ("lets_full(jobs, fires, thing)",),
     "trees": ("is_tree(thing)", "leaves(total, tree)"),
+    "walking": ("idle(house, book)", "sitting(house, book)", "dishes(house, book, state=None)",
+                "table_of(house, book, dish)", "history(house, book, dish)"),
+    "lateness": ("lateness(jobs, fires=1)", "late_paper(jobs, fires=1)"),
+    "latechecker": ("lets_late(jobs, fires, thing)",),
+    "fewest": ("fewest_fires(jobs)", "fires_paper(jobs)"),
+    "fewestchecker": ("lets_fewest(jobs, thing)",),
+    "most": ("most(jobs, fires=1)", "most_laid(jobs, fires=1)"),
 }
 
 

@@ -91,7 +91,8 @@ class TestGoneThrough(Checks):
             self.tells("row" if has_row(jobs, 1) else "full", jobs)
 
     def test_the_places_turn_nothing_else(self):
-        for jobs in (((0, 4, 2), (1, 3, 1), (2, 6, 3)), ((0, 4, 2), (1, 3, 2), (2, 6, 3)), ((0, 2, 2), (1, 1, 0), (1, 3, 1))):
+        for jobs in (((0, 4, 2), (1, 3, 1), (2, 6, 3)), ((0, 4, 2), (1, 3, 2), (2, 6, 3)),
+                     ((0, 2, 2), (1, 1, 0), (1, 3, 1))):
             for placed in itertools.permutations(jobs):
                 self.tells(kitchen(jobs)[0], placed)
 

@@ -101,6 +101,23 @@ class TestWriting(unittest.TestCase):
                 for alias in node.names:
                     self.assertIn(alias.name, defined)
 
+    def test_no_two_files_import_from_each_other(self):
+        above = {path.stem: {node.module.split(".")[1] for node in nodes_of(path) if isinstance(node, ast.ImportFrom)}
+                 for path in FILES}
+        # A file that imports nothing of those that are left stands below them; none is left at last.
+        while above:
+            low = [name for name in above if not above[name] & set(above)]
+            self.assertTrue(low, above)
+            above = {name: above[name] for name in above if name not in low}
+
+    def test_no_name_is_a_method_and_an_attribute(self):
+        attributes = [node for path in FILES for node in nodes_of(path) if isinstance(node, ast.Attribute)]
+        stored = {node.attr for node in attributes if isinstance(node.ctx, ast.Store)}
+        read = {node.attr for node in attributes if isinstance(node.ctx, ast.Load)}
+        methods = set(own_methods()) | set(METHODS)
+        self.assertEqual(stored & methods, set())
+        self.assertEqual(read - stored - methods, set())
+
     def test_names(self):
         for path in FILES:
             nodes = nodes_of(path)
