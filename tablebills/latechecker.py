@@ -20,17 +20,17 @@ def lets_late(jobs, fires, thing):
     return late
 
 
-def look_at_row(jobs, fires, thing):
-    """Refuses what is no ROW, as a part of a paper."""
+def look_at_row(jobs, fires, thing, some=False):
+    """How many pieces the ROW or PART ROW has that is a part of a paper."""
     try:
-        lets_row(jobs, fires, thing)
+        return lets_row(jobs, fires, thing, some)
     except NoPaper:
         raise NoPaper("row", -1) from None
 
 
-def look_at_stretch(jobs, fires, thing):
-    """Refuses what is no STRETCH that is FULL, as a part of a paper."""
+def look_at_stretch(jobs, fires, thing, at=-1):
+    """By how many pieces the STRETCH is FULL that is a part of a paper, in this place."""
     try:
-        lets_full(jobs, fires, thing)
+        return lets_full(jobs, fires, thing)
     except NoPaper:
-        raise NoPaper("stretch", -1) from None
+        raise NoPaper("stretch", at) from None

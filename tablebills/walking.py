@@ -2,8 +2,8 @@
 
 from tablebills.costs import cost
 from tablebills.dealing import deal
-from tablebills.errors import NoDish
-from tablebills.kinds import is_number
+from tablebills.errors import NoDish, NoSeat
+from tablebills.kinds import is_number, is_word
 
 # The TABLE of a SEAT that is gone.
 GONE = ""
@@ -44,9 +44,12 @@ class Walk:
         self.tables = {}
         # By their NUMBERS, in the order that they were asked.
         self.dishes = {}
-        # What the SEATS have TO PAY beside their SHARES.
-        self.beside = {}
+        # What turned what is TO PAY beside the SHARES: (name, word, seat, pence).
+        self.entries = []
+        # How many "even" PAGES were done.
         self.evens = 0
+        # The "fire" and "rush" PAGES that were done: (name, word, table, course, dishes, barring).
+        self.firings = []
         self.reasons = []
 
 
@@ -83,18 +86,18 @@ def table_by(walk, seats):
 
 
 def dishes_at(walk, table):
-    """The NUMBERS of all DISHES of the TABLE."""
-    return [number for number in walk.dishes if table_by(walk, walk.dishes[number].seats) == table]
+    """The NUMBERS of all DISHES of the TABLE, rising."""
+    return [number for number in sorted(walk.dishes) if table_by(walk, walk.dishes[number].seats) == table]
 
 
 def asked_at(walk, table, course):
-    """The NUMBERS of the DISHES of this TABLE and course that are ASKED."""
+    """The NUMBERS of the DISHES of this TABLE and course that are ASKED, rising."""
     return [number for number in dishes_at(walk, table)
             if walk.dishes[number].course == course and walk.dishes[number].state == "asked"]
 
 
 def barring(walk, table, course):
-    """The NUMBERS of the DISHES of this TABLE that bar the course."""
+    """The NUMBERS of the DISHES of this TABLE that bar the course, rising."""
     return [number for number in dishes_at(walk, table)
             if walk.dishes[number].course < course and walk.dishes[number].state in BARRING]
 
@@ -110,21 +113,26 @@ def begins(walk):
     return told
 
 
-def to_pay_by(walk, seat):
-    """What the SEAT has TO PAY."""
-    pence = walk.beside.get(seat, 0)
+def account_by(walk, seat):
+    """The rows (name, word, pence) of all that the SEAT has TO PAY, in no order."""
+    rows = [(name, word, pence) for name, word, owner, pence in walk.entries if owner == seat]
     begun = begins(walk)
     for number in walk.dishes:
         dish = walk.dishes[number]
         if dish.state in LIVING and seat in dish.seats:
-            shares = deal(dish.cost, len(dish.seats), begun[number])
-            pence += shares[dish.seats.index(seat)]
-    return pence
+            shares = shares_by(dish, begun[number])
+            rows.append((dish.past[0][0], "dish", shares[dish.seats.index(seat)]))
+    return rows
 
 
-def add_beside(walk, seat, pence):
-    """The SEAT has so much more TO PAY beside its SHARES."""
-    walk.beside[seat] = walk.beside.get(seat, 0) + pence
+def shares_by(dish, begun):
+    """The SHARES of the DISH, SEAT by SEAT, which begins there in its RUN."""
+    return deal(dish.cost, len(dish.seats), begun)
+
+
+def to_pay_by(walk, seat):
+    """What the SEAT has TO PAY."""
+    return sum([pence for name, word, pence in account_by(walk, seat)])
 
 
 def has_item(walk, item):
@@ -226,12 +234,14 @@ def do_fire(walk, name, deed):
     """Does a "fire" or a "rush", which no turn bars."""
     word, table, course = deed
     numbers = asked_at(walk, table, course)
+    bars = barring(walk, table, course)
     if not numbers:
         return "empty"
-    if word == "fire" and barring(walk, table, course):
+    if word == "fire" and bars:
         return "turn"
     for number in numbers:
         turn(walk.dishes[number], "fired", name)
+    walk.firings.append((name, word, table, course, tuple(numbers), tuple(bars)))
     return DONE
 
 
@@ -252,7 +262,7 @@ def do_pay(walk, name, deed):
         return "gone"
     if pence > to_pay_by(walk, seat):
         return "much"
-    add_beside(walk, seat, -pence)
+    walk.entries.append((name, "paid", seat, -pence))
     return DONE
 
 
@@ -263,8 +273,8 @@ def do_take(walk, name, deed):
         return "gone"
     if pence > to_pay_by(walk, other):
         return "much"
-    add_beside(walk, seat, pence)
-    add_beside(walk, other, -pence)
+    walk.entries.append((name, "took", seat, pence))
+    walk.entries.append((name, "gave", other, -pence))
     return DONE
 
 
@@ -278,7 +288,8 @@ def do_even(walk, name, deed):
         return "below"
     parts = deal(sum(ahead), len(seats), walk.evens)
     for seat, part, pence in zip(seats, parts, ahead):
-        add_beside(walk, seat, part - pence)
+        if part != pence:
+            walk.entries.append((name, "even", seat, part - pence))
     walk.evens += 1
     return DONE
 
@@ -340,3 +351,11 @@ def known_dish(walk, thing):
     if not is_number(thing) or thing not in walk.dishes:
         raise NoDish(thing)
     return walk.dishes[thing]
+
+
+def known_seat(walk, thing):
+    """The SEAT that the thing calls."""
+    # Only WORDS are looked for: a list can't be.
+    if not is_word(thing) or thing not in walk.tables:
+        raise NoSeat(thing)
+    return thing

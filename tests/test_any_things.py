@@ -12,6 +12,7 @@ from tablebills.jobs import is_jobs
 from tablebills.kinds import is_number, is_word
 from tablebills.latechecker import lets_late
 from tablebills.menus import is_menu, is_offs
+from tablebills.mostchecker import lets_most
 from tablebills.rowchecker import lets_row
 from tablebills.splitchecker import lets_split
 from tablebills.stretchchecker import lets_full
@@ -22,7 +23,7 @@ LOOKS = (is_number, is_word, is_menu, is_offs, is_deed, is_page, is_jobs, is_boo
 THINGS = ANY_THINGS + (HOUSE,) + HOUSE[:2] + tuple(deed for deed, text in DEEDS) + (
     (), ((3, 8, 5),), ((600, 1), ("go", "ann")), ((0, 0, 1), [1, 0, 1]), (1, [2]), ([1], 2),
     (((600, 1), ("go", "ann")),), (((600, 1), ("go", "ann")), []), ((1, ()), (2, ((1, ()),))), ((1, ()), (2, [])),
-    HOUSE[:3] + ([1],), (1, 3), (0, 4), (0, (), None), (1, ([3],), [1]), (2, [()], (0, 4)))
+    HOUSE[:3] + ([1],), ((), ()), (((0, 0, 1),), ([0, 3],)), (1, 3), (0, 4), (0, (), None), (1, ([3],), [1]), (2, [()], (0, 4)))
 
 
 def answer(checker, *told):
@@ -49,7 +50,8 @@ class TestAnyThings(unittest.TestCase):
                 first = answer(lets_row, jobs, 2, thing, some)
                 self.assertEqual(answer(lets_row, jobs, 2, thing, some), first)
             for checker, told in ((lets_split, (3, (1, 2))), (lets_full, (jobs, 1)), (lets_late, (jobs, 2)),
-                                  (lets_late, ((), 1)), (lets_fewest, (jobs,)), (lets_fewest, ((),))):
+                                  (lets_late, ((), 1)), (lets_fewest, (jobs,)), (lets_fewest, ((),)),
+                                  (lets_most, (jobs, 1)), (lets_most, ((), 1))):
                 first = answer(checker, *told, thing)
                 self.assertEqual(answer(checker, *told, thing), first)
         self.assertEqual(things, THINGS)

@@ -30,6 +30,13 @@ INTERFACE = {
     "fewest": ("fewest_fires(jobs)", "fires_paper(jobs)"),
     "fewestchecker": ("lets_fewest(jobs, thing)",),
     "most": ("most(jobs, fires=1)", "most_laid(jobs, fires=1)"),
+    "turns": ("barred(house, book, table, course=0)", "may_fire(house, book, table, course=0)",
+              "firings(house, book)"),
+    "runs": ("run(house, book, seats)", "shares_of(house, book, dish)"),
+    "paying": ("to_pay(house, book, minute=None)", "owes(house, book, seat, minute=None)", "sums(house, book)"),
+    "without": ("backed(house, book, dish)",),
+    "mostchecker": ("lets_most(jobs, fires, thing)",),
+    "ordering": ("jobs_of(house, book)", "row_of(house, book)"),
 }
 
 

@@ -1,8 +1,12 @@
-"""[75], [76] Other names and later minutes."""
+"""[75], [76], [77] Other names and later minutes."""
 
 import unittest
 
 from tablebills.naming import house_later, renamed
+from tablebills.paying import owes, sums, to_pay
+from tablebills.walking import dishes, idle
+from tests import walks
+from tests.chances import BOOKS
 from tests.samples import DEEDS, HOUSE
 
 # The same DEEDS as in samples, ann and bob, one and two by newer names.
@@ -104,6 +108,49 @@ class TestHouseLater(unittest.TestCase):
     def test_by_names(self):
         self.assertEqual(house_later(later=0, house=HOUSE), HOUSE)
         self.assertEqual(house_later(house=HOUSE, later=7), house_later(HOUSE, 7))
+
+
+class TestSo(unittest.TestCase):
+    """[77]"""
+
+    NAMES = (("ann", "bea"), ("bob", "bo"), ("cy", "dora"), ("dan", "eve"), ("one", "ten"), ("three", "tent"),
+             ("two", "z"))
+    # In their order among those that stay.
+    FEWER = (("bob", "c"), ("one", "seven"))
+
+    def look(self, pages, names, later):
+        newer = dict(names)
+        moved, house = renamed(pages, names, later), house_later(walks.HOUSE, later)
+        self.assertEqual(idle(house, moved), tuple(((minute + later, number), reason)
+                                                   for (minute, number), reason in idle(walks.HOUSE, pages)))
+        told = to_pay(walks.HOUSE, pages)
+        self.assertEqual(to_pay(house, moved), tuple((newer.get(seat, seat), pence) for seat, pence in told))
+        for seat, pence in told:
+            self.assertEqual(owes(house, moved, newer.get(seat, seat)), pence)
+        self.assertEqual(sums(house, moved), sums(walks.HOUSE, pages))
+
+    def test_the_same_is_idle_and_to_pay(self):
+        for pages in BOOKS[:40]:
+            for names, later in ((self.NAMES, 0), (self.NAMES, 7), (self.FEWER, 300), ((), 1), ((), 10 ** 6)):
+                self.look(pages, names, later)
+
+    def test_at_minutes_where_prices_and_offs_turn(self):
+        text = "sit ann one | sit bob one | ask 0 soup 0 ann bob | ask 1 tea 0 bob | change 0 soup | pay ann 112"
+        for first in (595, 596, 597, 598, 600, 715, 716, 717, 718, 896, 897, 898):
+            self.look(walks.book(text, first), self.NAMES, 13)
+
+    def test_up_to_a_minute(self):
+        for pages in BOOKS[:10]:
+            moved, house = renamed(pages, self.NAMES, 50), house_later(walks.HOUSE, 50)
+            for minute in {page[0][0] for page in pages}:
+                self.assertEqual([pence for seat, pence in to_pay(house, moved, minute + 50)],
+                                 [pence for seat, pence in to_pay(walks.HOUSE, pages, minute)])
+
+    def test_a_book_alone_is_another_one(self):
+        pages = walks.book("sit ann one | ask 0 soup 0 ann", 590)
+        self.assertEqual(dishes(walks.HOUSE, pages)[0][5], 450)
+        self.assertEqual(dishes(walks.HOUSE, renamed(pages, (), 50))[0][5], 225)
+        self.assertEqual(dishes(house_later(walks.HOUSE, 50), renamed(pages, (), 50))[0][5], 450)
 
 
 if __name__ == "__main__":

@@ -7,9 +7,9 @@ import unittest
 from tablebills.books import book_of, is_book, until
 from tablebills.errors import NoDish
 from tablebills.walking import dishes, history, idle, sitting, table_of
-from tests.walks import HOUSE, SEATS, TABLES, book, chance_book, words_of
+from tests.chances import BOOKS
+from tests.walks import HOUSE, SEATS, TABLES, book, words_of
 
-BOOKS = tuple(chance_book(HOUSE, seed) for seed in range(120))
 STATES = ("asked", "fired", "served", "back", "struck")
 
 # Each reason of [4], by the DEEDS that have it.

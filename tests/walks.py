@@ -30,6 +30,7 @@ class Words:
         self.idle = []
         self.events = []
         self.evened = []
+        self.firings = []
 
     def seated(self):
         told = {}
@@ -74,12 +75,67 @@ class Words:
                 pence -= deed[2]
             if deed[0] == "take" and seat in deed[1:3]:
                 pence += deed[3] if deed[1] == seat else -deed[3]
-        for number, row in enumerate(self.asked()):
-            begin = sum(other[4] for other in self.asked()[:number] if other[3] == row[3])
+        for row in self.asked():
             if seat in row[3] and self.state(row[0]) in LIVING:
-                hand = row[3].index(seat)
-                pence += len([k for k in range(begin, begin + row[4]) if k % len(row[3]) == hand])
+                pence += dict(self.shares(row[0]))[seat]
         return pence
+
+    def run(self, seats):
+        told, begin = [], 0
+        for row in self.asked():
+            if row[3] == seats:
+                told.append((row[0], begin, begin + row[4]))
+                begin += row[4]
+        return tuple(told)
+
+    def shares(self, dish):
+        seats = [row[3] for row in self.asked() if row[0] == dish][0]
+        begin, end = [row[1:] for row in self.run(seats) if row[0] == dish][0]
+        hands = [k % len(seats) for k in range(begin, end)]
+        return tuple((seat, hands.count(hand)) for hand, seat in enumerate(seats))
+
+    def account(self, seat):
+        """The rows of [43]."""
+        rows, evens = [], iter(self.evened)
+        for name, deed in self.done:
+            if deed[0] == "ask" and seat in deed[4] and self.state(deed[1]) in LIVING:
+                rows.append((name, "dish", dict(self.shares(deed[1]))[seat]))
+            if deed[0] == "take" and seat == deed[1]:
+                rows.append((name, "took", deed[3]))
+            if deed[0] == "take" and seat == deed[2]:
+                rows.append((name, "gave", -deed[3]))
+            if deed[0] == "pay" and seat == deed[1]:
+                rows.append((name, "paid", -deed[2]))
+            turned = next(evens).get(seat, 0) if deed[0] == "even" else 0
+            if turned:
+                rows.append((name, "even", turned))
+        return tuple(rows)
+
+    def sums(self):
+        costs = sum(row[4] for row in self.asked() if self.state(row[0]) in LIVING)
+        paid = sum(deed[2] for name, deed in self.done if deed[0] == "pay")
+        return costs, paid, sum(map(self.to_pay, self.seated()))
+
+    def at(self, table, course):
+        """The DISHES of the TABLE and course that are ASKED."""
+        return tuple(sorted(row[0] for row in self.of_table(table)
+                            if row[2] == course and self.state(row[0]) == "asked"))
+
+    def barring(self, table, course):
+        return tuple(sorted(row[0] for row in self.of_table(table)
+                            if row[2] < course and self.state(row[0]) in ("asked", "fired")))
+
+    def jobs(self):
+        """The names and JOBS of [64]."""
+        minutes = {item: wanted for item, wanted, prices in self.house[0]}
+        items = {row[0]: row[1] for row in self.asked()}
+        names, jobs = [], []
+        for name, word, table, course, dishes, barring in self.firings:
+            still = [dish for dish in dishes if self.state(dish) == "fired"]
+            if still:
+                names.append(name)
+                jobs.append((name[0], name[0] + self.house[2], sum(minutes[items[dish]] for dish in still)))
+        return tuple(names), tuple(jobs)
 
     def reasons(self, deed):
         """Each reason of such a DEED, in the order of [4], and whether it is so."""
@@ -102,11 +158,9 @@ class Words:
             yield "dish", self.state(deed[1]) != "asked"
             yield "item", deed[2] not in items
         if word in ("fire", "rush"):
-            yield "empty", not [1 for row in self.of_table(deed[1])
-                                if row[2] == deed[2] and self.state(row[0]) == "asked"]
+            yield "empty", self.at(*deed[1:]) == ()
         if word == "fire":
-            yield "turn", [1 for row in self.of_table(deed[1])
-                           if row[2] < deed[2] and self.state(row[0]) in ("asked", "fired")] != []
+            yield "turn", self.barring(*deed[1:]) != ()
         if word in ("serve", "back", "strike"):
             wanted = {"serve": ("fired",), "back": ("served",), "strike": ("asked", "fired")}
             yield "dish", self.state(deed[1]) not in wanted[word]
@@ -131,8 +185,9 @@ class Words:
         if deed[0] in turned_to:
             self.events.append((deed[1], name, turned_to[deed[0]]))
         if deed[0] in ("fire", "rush"):
-            fired = [row[0] for row in self.of_table(deed[1]) if row[2] == deed[2] and self.state(row[0]) == "asked"]
-            self.events.extend((dish, name, "fired") for dish in fired)
+            fired = self.at(*deed[1:])
+            self.firings.append((name,) + deed + (fired, self.barring(*deed[1:])))
+            self.events.extend([(dish, name, "fired") for dish in fired])
         if deed[0] == "even":
             pence = [self.to_pay(seat) for seat in deed[1]]
             many, begin = len(deed[1]), len(self.evened)
