@@ -3,6 +3,7 @@
 import copy
 import unittest
 
+from tablebills.accountchecker import lets_account
 from tablebills.books import is_book
 from tablebills.deeds import is_deed, is_page
 from tablebills.errors import NoPaper
@@ -17,8 +18,10 @@ from tablebills.rowchecker import lets_row
 from tablebills.splitchecker import lets_split
 from tablebills.stretchchecker import lets_full
 from tablebills.trees import is_tree
+from tablebills.turnchecker import lets_turns
 from tests.samples import ANY_THINGS, DEEDS, HOUSE
 
+BOOK = (((600, 1), ("sit", "ann", "one")), ((600, 2), ("ask", 0, "tea", 0, ("ann",))), ((601, 0), ("fire", "one", 0)))
 LOOKS = (is_number, is_word, is_menu, is_offs, is_deed, is_page, is_jobs, is_book, is_house, is_tree)
 THINGS = ANY_THINGS + (HOUSE,) + HOUSE[:2] + tuple(deed for deed, text in DEEDS) + (
     (), ((3, 8, 5),), ((600, 1), ("go", "ann")), ((0, 0, 1), [1, 0, 1]), (1, [2]), ([1], 2),
@@ -51,7 +54,9 @@ class TestAnyThings(unittest.TestCase):
                 self.assertEqual(answer(lets_row, jobs, 2, thing, some), first)
             for checker, told in ((lets_split, (3, (1, 2))), (lets_full, (jobs, 1)), (lets_late, (jobs, 2)),
                                   (lets_late, ((), 1)), (lets_fewest, (jobs,)), (lets_fewest, ((),)),
-                                  (lets_most, (jobs, 1)), (lets_most, ((), 1))):
+                                  (lets_most, (jobs, 1)), (lets_most, ((), 1)),
+                                  (lets_turns, (HOUSE, BOOK)), (lets_turns, (HOUSE, ())),
+                                  (lets_account, (HOUSE, BOOK, "ann"))):
                 first = answer(checker, *told, thing)
                 self.assertEqual(answer(checker, *told, thing), first)
         self.assertEqual(things, THINGS)

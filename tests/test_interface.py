@@ -1,10 +1,10 @@
-"""The interface: each function by its name, its arguments and their values, in its own file."""
+"""The interface: each function, class and method by its name, its arguments and their values, in its own file."""
 
 import importlib
 import inspect
 import unittest
 
-# Each function as DOC.md's interface writes it, by its file.
+# Each function and class as DOC.md's interface writes it, by its file.
 INTERFACE = {
     "kinds": ("is_number(thing)", "is_word(thing)"),
     "dealing": ("deal(pence, many, begun=0)", "dealt_on(pieces, many)"),
@@ -37,6 +37,22 @@ INTERFACE = {
     "without": ("backed(house, book, dish)",),
     "mostchecker": ("lets_most(jobs, fires, thing)",),
     "ordering": ("jobs_of(house, book)", "row_of(house, book)"),
+    "turnchecker": ("lets_turns(house, book, thing)",),
+    "accounts": ("account(house, book, seat)",),
+    "accountchecker": ("lets_account(house, book, seat, thing)",),
+    "bills": ("Bill(seat, rows=None)", "bill_of(house, book, seat)", "bills_of(house, book, table='')"),
+    "diaries": ("Diary(house)",),
+    "desk": ("Desk()",),
+}
+
+# The methods of each class, by its file; ==, len and str by their double underscores.
+METHODS = {
+    ("bills", "Bill"): ("called(self)", "rows(self)", "total(self)", "__eq__(self, other)", "__len__(self)",
+                        "__str__(self)"),
+    ("diaries", "Diary"): ("tell(self, page)", "bring(self, book)", "back(self, times=1)", "house(self)", "book(self)",
+                           "steps(self)", "until(self, name)", "then(self, k)", "turned(self)", "__eq__(self, other)",
+                           "__len__(self)", "__str__(self)"),
+    ("desk", "Desk"): ("say(self, row)",),
 }
 
 
@@ -49,6 +65,14 @@ class TestInterface(unittest.TestCase):
                 function = getattr(module, name)
                 self.assertEqual(name + str(inspect.signature(function)), wanted)
                 self.assertEqual(function.__module__, module.__name__)
+
+    def test_methods(self):
+        for (file, name), written in METHODS.items():
+            kind = getattr(importlib.import_module("tablebills." + file), name)
+            for wanted in written:
+                # Defined in the class itself, not only in a base class.
+                method = vars(kind)[wanted.split("(")[0]]
+                self.assertEqual(method.__name__ + str(inspect.signature(method)), wanted)
 
 
 if __name__ == "__main__":

@@ -30,8 +30,7 @@ def nodes_of(path):
 
 
 def own_methods():
-    return [row.name for path in FILES for node in nodes_of(path) if isinstance(node, ast.ClassDef)
-            for row in node.body if isinstance(row, ast.FunctionDef)]
+    return [row.name for path in FILES for row in methods_of(path)]
 
 
 def bound_names(node):
@@ -45,6 +44,15 @@ def bound_names(node):
     if isinstance(node, ast.alias):
         return [node.asname or node.name]
     return []
+
+
+def methods_of(path):
+    return [row for node in nodes_of(path) if isinstance(node, ast.ClassDef) for row in node.body
+            if isinstance(row, ast.FunctionDef)]
+
+
+def returned(function):
+    return [node.value for node in ast.walk(function) if isinstance(node, ast.Return)]
 
 
 class TestFiles(unittest.TestCase):
@@ -156,6 +164,45 @@ class TestWriting(unittest.TestCase):
                     self.assertIn(node.func.id, BUILTINS, path.name)
                     if node.func.id in WHOLE_LIST_TAKERS:
                         self.assertNotIsInstance(node.args[0], ast.GeneratorExp, path.name)
+
+
+class TestClasses(unittest.TestCase):
+    """L5, L28"""
+
+    def test_what_double_underscore_methods_return(self):
+        for path in FILES:
+            for method in methods_of(path):
+                values = returned(method)
+                if method.name == "__init__":
+                    self.assertEqual(values, [], path.name)
+                if method.name in ("__len__", "__str__", "__repr__"):
+                    self.assertIsInstance(method.body[-1], ast.Return, path.name)
+                for value in values:
+                    called = value.func.id if isinstance(value, ast.Call) and isinstance(value.func, ast.Name) else ""
+                    if method.name == "__len__":
+                        self.assertEqual(called, "len", path.name)
+                    if method.name in ("__str__", "__repr__"):
+                        self.assertTrue(called in ("str", "repr") or isinstance(value, ast.JoinedStr), path.name)
+
+    def test_double_underscore_methods_assign_nothing(self):
+        for path in FILES:
+            for method in methods_of(path):
+                if method.name in ("__eq__", "__len__", "__str__", "__repr__"):
+                    for node in ast.walk(method):
+                        self.assertNotIsInstance(node, (ast.Assign, ast.AugAssign, ast.AnnAssign, ast.Delete), path.name)
+
+    def test_classes_are_called_or_asked_for(self):
+        names = {node.name for path in FILES for node in nodes_of(path) if isinstance(node, ast.ClassDef)}
+        for path in FILES:
+            nodes = nodes_of(path)
+            let = [node.func for node in nodes if isinstance(node, ast.Call)]
+            let += [base for node in nodes if isinstance(node, ast.ClassDef) for base in node.bases]
+            let += [node.args[1] for node in nodes if isinstance(node, ast.Call)
+                    and isinstance(node.func, ast.Name) and node.func.id == "isinstance"]
+            let += [node.type for node in nodes if isinstance(node, ast.ExceptHandler)]
+            for node in nodes:
+                if isinstance(node, ast.Name) and node.id in names:
+                    self.assertIn(node, let, (path.name, node.id))
 
 
 if __name__ == "__main__":
